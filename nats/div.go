@@ -78,7 +78,8 @@ func guess(rest, by api.Nat) uint32 {
 	return uint32(times)
 }
 
-// subTimes takes b, so many times, from a, which has one part more, in place, and answers whether that went below 0: then a is 2 to the power of all its bits too much.
+// subTimes takes b, so many times, from a, which has one part more, in place.
+// It answers whether that went below 0: then what stands there went round.
 func subTimes(a, b api.Nat, times uint32) bool {
 	var carry, borrow uint64
 	for i, p := range slices.All(b) {

@@ -34,7 +34,8 @@ func gcdOfWords(a, b uint64) uint64 {
 	return a
 }
 
-// lessen makes lesser numbers with the same Gcd of two of more than 64 bits, of which the first one is not the lesser one; so are the two that come out.
+// lessen makes lesser numbers with the same Gcd of two that have more than 64 bits.
+// The first one is not below the second one, and so it is with those that come out.
 func lessen(a, b api.Nat) (api.Nat, api.Nat) {
 	s := stepsOf(heads(a, b))
 	switch {
@@ -58,13 +59,15 @@ func head(a api.Nat, n int, shift uint) uint64 {
 	return (part(a, n-1)<<width|part(a, n-2))<<shift | part(a, n-3)>>(width-shift)
 }
 
-// steps tells what some steps of Euclid's way (the greater number becomes the less one, and that what is left of the division) make of numbers a and b: v0 b less u0 a, and u1 a less v1 b; if even, each the other way about.
+// steps tells what some divisions, one behind the other, make of two numbers: of a and b they make
+// v0 b less u0 a, and u1 a less v1 b; if even, each the other way about.
 type steps struct {
 	u0, v0, u1, v1 uint32
 	even           bool
 }
 
-// stepsOf tells as many steps as are sure of all numbers with these heads (Lehmer's way, with Collins's condition, which also keeps the factors below 2^32), but the last one: all 0 but u1, if there are none.
+// stepsOf tells the divisions, but the last one, that are sure of all numbers with these heads (Lehmer's way);
+// v0 is 0, if there are none. The loop's condition, Collins's, also keeps each factor within a part.
 func stepsOf(a, b uint64) steps {
 	var u, v = [3]uint64{0, 1, 0}, [3]uint64{0, 0, 1}
 	even := false
