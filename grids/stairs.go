@@ -65,6 +65,9 @@ func (s *stairs) turn(at, col int) {
 	stair := s.grid[next][col:]
 	for i := next + 1; i < len(s.grid); i++ {
 		row := s.grid[i]
+		if rats.Sign(row[col]) == 0 {
+			continue
+		}
 		times, _ := rats.Div(row[col], stair[0])
 		// Both have 0 at all columns before this one: these need not be gone through.
 		rest, _ := vecs.Add(row[col:], stair, minus(times))
