@@ -139,11 +139,11 @@ func (n *notes) take(state, to string, k api.Token) {
 		n.goal, n.sum = n.sum, nil
 	case to == "sought":
 		n.vars = append(n.vars, use{k.Text, k.At, nil})
-		n.model.Vars = append(vars, api.Var{Name: k.Text, HasLow: true, Low: rats.Of(0)})
+		n.model.Vars = append(vars, api.Var{Name: k.Text, HasLow: true, Low: part(0, 1), High: part(0, 1)})
 	case to == "whole":
 		vars[len(vars)-1].Whole = true
 	case k.Text == "free", to == "low":
-		vars[len(vars)-1].HasLow, vars[len(vars)-1].Low = false, api.Rat{}
+		vars[len(vars)-1].HasLow = false
 	case to == "high" && n.amount != nil:
 		vars[len(vars)-1].HasLow, vars[len(vars)-1].Low = true, ratOf(n.value())
 	case to == "bounded" && n.amount != nil:

@@ -55,12 +55,9 @@ func (j judge) coef(l []api.Rat) bool {
 	return true
 }
 
-// bound tells whether it may be one, if it is asked for, or if not.
+// bound tells whether it may be one. One that is not asked for must be a fraction as all others are, and 0.
 func (j judge) bound(asked bool, x api.Rat) bool {
-	if asked {
-		return j.fraction(x)
-	}
-	return isNought(x)
+	return j.fraction(x) && (asked || rats.Sign(x) == 0)
 }
 
 func (j judge) fraction(x api.Rat) bool {
@@ -69,13 +66,5 @@ func (j judge) fraction(x api.Rat) bool {
 }
 
 func (j judge) short(n api.Nat) bool { return nats.Cmp(n, j.greatest) <= 0 }
-
-// isNought tells whether a fraction is 0, or the zero struct: so it is, if nobody set it.
-func isNought(x api.Rat) bool {
-	if x.Num.Neg || len(x.Num.N) > 0 {
-		return false
-	}
-	return len(x.Den) == 0 || nats.Cmp(x.Den, nats.Of(1)) == 0
-}
 
 func isKind(k api.Kind) bool { return k >= api.KiLess && k <= api.KiMore }

@@ -31,6 +31,15 @@ func of(l ...int64) []api.Rat {
 	return out
 }
 
+// freeVars are vars of which no bound is asked for.
+func freeVars(names ...string) []api.Var {
+	var out []api.Var
+	for _, s := range names {
+		out = append(out, api.Var{Name: s, Low: part(0, 1), High: part(0, 1)})
+	}
+	return out
+}
+
 // power is ten to the power of n.
 func power(n int) *big.Int { return new(big.Int).Exp(big.NewInt(10), big.NewInt(int64(n)), nil) }
 
@@ -93,11 +102,10 @@ func parsed(t *testing.T, s string) api.Model {
 }
 
 func TestParse(t *testing.T) { // P7.1
-	nought := api.Rat{}
 	m := api.Model{Most: true, Goal: of(2, 2, 0), Vars: []api.Var{
-		{Name: "x", HasLow: true, Low: part(0, 1)},
+		{Name: "x", HasLow: true, Low: part(0, 1), High: part(0, 1)},
 		{Name: "y", Whole: true, HasLow: true, Low: part(-1, 1), HasHigh: true, High: part(1, 2)},
-		{Name: "z", Low: nought, High: nought},
+		{Name: "z", Low: part(0, 1), High: part(0, 1)},
 	}, Rows: []api.Row{
 		{Coef: of(1, 1, 0), Kind: api.KiLess, Right: part(4, 1)},
 		{Coef: of(0, 0, -1), Kind: api.KiMore, Right: part(-5, 2)},
@@ -120,26 +128,27 @@ func TestParse(t *testing.T) { // P7.1
 }
 
 func TestParseVars(t *testing.T) { // P7.1
-	none, nought := api.Rat{}, part(0, 1)
+	nought := part(0, 1)
 	for s, v := range map[string]api.Var{
-		"":                {HasLow: true, Low: nought},
-		"whole":           {Whole: true, HasLow: true, Low: nought},
-		"free":            {Low: none, High: none},
-		"whole free":      {Whole: true},
-		"[,]":             {},
-		"whole [ , ]":     {Whole: true},
-		"[0,]":            {HasLow: true, Low: nought},
+		"":                {HasLow: true, Low: nought, High: nought},
+		"whole":           {Whole: true, HasLow: true, Low: nought, High: nought},
+		"free":            {Low: nought, High: nought},
+		"whole free":      {Whole: true, Low: nought, High: nought},
+		"[,]":             {Low: nought, High: nought},
+		"whole [ , ]":     {Whole: true, Low: nought, High: nought},
+		"[0,]":            {HasLow: true, Low: nought, High: nought},
 		"[-0,-0.0]":       {HasLow: true, Low: nought, HasHigh: true, High: nought},
-		"[,0]":            {HasHigh: true, High: nought},
-		"[-3/6,]":         {HasLow: true, Low: part(-1, 2)},
-		"whole [,-2.50]":  {Whole: true, HasHigh: true, High: part(-5, 2)},
+		"[,0]":            {Low: nought, HasHigh: true, High: nought},
+		"[-3/6,]":         {HasLow: true, Low: part(-1, 2), High: nought},
+		"whole [2, ]":     {Whole: true, HasLow: true, Low: part(2, 1), High: nought},
+		"whole [,-2.50]":  {Whole: true, Low: nought, HasHigh: true, High: part(-5, 2)},
 		"[2, 1]":          {HasLow: true, Low: part(2, 1), HasHigh: true, High: part(1, 1)},
 		"[- 1 / 3,4 / 6]": {HasLow: true, Low: part(-1, 3), HasHigh: true, High: part(2, 3)},
 	} {
 		v.Name = "x"
 		m := api.Model{Goal: of(0), Vars: []api.Var{v}}
 		want(t, "least; vars x "+s+"; end", m, 0, api.OK)
-		m.Goal, m.Vars = of(0, 0), append(m.Vars, api.Var{Name: "y", HasLow: true, Low: nought})
+		m.Goal, m.Vars = of(0, 0), append(m.Vars, api.Var{Name: "y", HasLow: true, Low: nought, High: nought})
 		want(t, "least; vars x "+s+", y; end", m, 0, api.OK)
 	}
 	for s, at := range map[string]int{"free whole": 5, "free free": 5, "whole whole": 6, "free [1,2]": 5, "[1,2] free": 6, "[1,2] whole": 6, "[1]": 2, "[]": 1, "[1;2]": 2, "[,,]": 2, "[1,2": 4, "[-,1]": 2, "[1,-]": 4, "[--1,]": 2, "[+1,]": 1, "[x,]": 1, "[1,x]": 3, "[1/,]": 3, "[1/-2,]": 3, "[1/2/3,]": 4, "[1,free]": 3, "(1,2)": 0, "1": 0, "y": 0, "= 1": 0, "[1/0,]": 1, "[-01,]": 2, "[,1.5/2]": 2, "[,-00]": 3} {
@@ -162,7 +171,7 @@ func TestParseSums(t *testing.T) { // P7.1
 		"2.50 y - 5 / 4 z + 0.125z":     {part(0, 1), part(5, 2), part(-9, 8)},
 		"4/2 x - 6/4 y + 10.00 z - 9 z": {part(2, 1), part(-3, 2), part(1, 1)},
 	} {
-		vars := []api.Var{{Name: "x"}, {Name: "y"}, {Name: "z"}}
+		vars := freeVars("x", "y", "z")
 		m := api.Model{Most: true, Goal: l, Vars: vars}
 		want(t, "most "+s+"; vars x free, y free, z free; end", m, 0, api.OK)
 		m.Goal = of(0, 0, 0)
@@ -284,7 +293,7 @@ func TestParseGrown(t *testing.T) { // P7.1
 		wantFault(t, "most; vars x; rows x = 0; "+s+" = 0; end", 0, api.ErrLimit)
 		wantFault(t, "most "+s+"; vars x; rows y = 0; end", 20+len(s), api.ErrName)
 		// What a sum is on its way does not matter.
-		m := api.Model{Most: true, Goal: of(2), Vars: []api.Var{{Name: "x"}}}
+		m := api.Model{Most: true, Goal: of(2), Vars: freeVars("x")}
 		back := strings.NewReplacer("+", "-", "-", "+").Replace(strings.TrimPrefix(s, "-"))
 		if strings.HasPrefix(s, "-") {
 			back = s[1:len(top)+1] + " x + x"
@@ -294,7 +303,7 @@ func TestParseGrown(t *testing.T) { // P7.1
 		want(t, "most "+s+" - "+back+" + 2 x; vars x free; end", m, 0, api.OK)
 	}
 	x := ratOf(new(big.Rat).SetInt(new(big.Int).Sub(power(api.MaxDigits), big.NewInt(1))))
-	want(t, "most "+top[1:]+"8 x + x; vars x free; end", api.Model{Most: true, Goal: []api.Rat{x}, Vars: []api.Var{{Name: "x"}}}, 0, api.OK)
+	want(t, "most "+top[1:]+"8 x + x; vars x free; end", api.Model{Most: true, Goal: []api.Rat{x}, Vars: freeVars("x")}, 0, api.OK)
 }
 
 // turns are tokens that are laid into a text.
@@ -512,7 +521,7 @@ func mayNot(t *testing.T) []api.Model {
 	but(func(m *api.Model) { m.Vars = nil })
 	but(func(m *api.Model) { *m = api.Model{Vars: []api.Var{}, Rows: m.Rows} })
 	but(func(m *api.Model) { m.Vars = m.Vars[:2] })
-	but(func(m *api.Model) { m.Vars = append(m.Vars, api.Var{Name: "w"}) })
+	but(func(m *api.Model) { m.Vars = append(m.Vars, freeVars("w")...) })
 	for _, s := range []string{"", "1", "_x", "x y", " x", "x ", "rows", "most", "sum", "x-", "é", "y", "z", "\xff", strings.Repeat("n", api.MaxName+1), strings.Repeat("x", 1<<20)} {
 		but(func(m *api.Model) { m.Vars[0].Name = s })
 	}
@@ -537,8 +546,9 @@ func mayNot(t *testing.T) []api.Model {
 		but(func(m *api.Model) { m.Vars[0].Low = x })
 		but(func(m *api.Model) { m.Vars[1].High = x })
 	}
-	// Where none is asked for, there is 0, or the zero struct.
-	for _, x := range append(mayNotRats()[1:], part(1, 1), part(-1, 2)) {
+	// A bound that is not asked for is 0, as a fraction that may be: neither the zero struct, nor another number.
+	for _, x := range append(mayNotRats(), api.Rat{Num: api.Int{N: api.Nat{}}, Den: api.Nat{}}, part(1, 1), part(-1, 2)) {
+		but(func(m *api.Model) { m.Vars[2].Low, m.Vars[2].High = x, x })
 		but(func(m *api.Model) { m.Vars[0].High = x })
 		but(func(m *api.Model) { m.Vars[2].Low = x })
 		but(func(m *api.Model) { m.Vars[2].High = x })
@@ -546,7 +556,7 @@ func mayNot(t *testing.T) []api.Model {
 	return out
 }
 
-// mayNotRats are fractions that may not be, or have too many digits. The first one is the zero struct.
+// mayNotRats are fractions that may not be, or have too many digits.
 func mayNotRats() []api.Rat {
 	one, top := api.Nat{1}, natOf(power(api.MaxDigits))
 	huge := make(api.Nat, 1<<20)
@@ -582,7 +592,7 @@ func TestCheck(t *testing.T) { // P7.3
 	mayBe(func(m *api.Model) { m.Vars[0].Name = "Y" })
 	mayBe(func(m *api.Model) { m.Vars[1].Low = part(7, 1) })
 	mayBe(func(m *api.Model) { m.Vars[0].High, m.Vars[2].Low, m.Vars[2].High = part(0, 1), part(0, 1), part(0, 1) })
-	mayBe(func(m *api.Model) { m.Vars[0].High = api.Rat{Num: api.Int{N: api.Nat{}}, Den: api.Nat{}} })
+	mayBe(func(m *api.Model) { m.Vars[2].High = api.Rat{Num: api.Int{N: api.Nat{}}, Den: api.Nat{1}} })
 	mayBe(func(m *api.Model) { m.Vars[0].HasHigh, m.Vars[0].High = true, part(1, 3) })
 	for _, x := range []*big.Rat{new(big.Rat).SetInt(top), new(big.Rat).SetInt(new(big.Int).Neg(top)), new(big.Rat).SetFrac(big.NewInt(-1), top), new(big.Rat).SetFrac(power(api.MaxDigits-1), top)} {
 		x := ratOf(x)
@@ -600,7 +610,7 @@ func TestCheckLimits(t *testing.T) { // P7.3
 		for _, rows := range []int{0, 1, api.MaxRows, api.MaxRows + 1} {
 			var m api.Model
 			for i := range vars {
-				m.Vars = append(m.Vars, api.Var{Name: "x" + big.NewInt(int64(i)).String()})
+				m.Vars = append(m.Vars, freeVars("x"+big.NewInt(int64(i)).String())...)
 			}
 			m.Goal = slices.Repeat(of(1), vars)
 			for range rows {
@@ -630,12 +640,6 @@ func TestAgain(t *testing.T) { // P7.4, P0.6
 	for _, x := range []string{top, top[1:] + "8/" + top, "1/" + top} {
 		text := "least -" + x + " x;\nvars x [-" + x + ", " + x + "];\nrows\n" + x + " x = -" + x + ";\nend\n"
 		wantText(t, text, text)
-	}
-	// A fraction of no bound that is asked for may be 0, too: that is not written.
-	m := parsed(t, example)
-	m.Vars[0].High, m.Vars[2].Low, m.Vars[2].High = part(0, 1), part(0, 1), part(0, 1)
-	if s, e := models.Text(m); s != exampleText || e != api.OK {
-		t.Errorf("%q %d", s, e)
 	}
 }
 

@@ -118,14 +118,15 @@ func (r *reader) draft() draft {
 // sought takes a var.
 func (r *reader) sought() sought {
 	name := r.name()
-	v := api.Var{Name: name.Text, Whole: r.has(whole)}
+	// A bound that is not asked for is 0 as well, not nothing: else the model may not be.
+	v := api.Var{Name: name.Text, Whole: r.has(whole), Low: rats.Of(0), High: rats.Of(0)}
 	switch {
 	case r.has(free):
 	case r.has(opening):
 		v.Low, v.HasLow = r.boundAhead(comma)
 		v.High, v.HasHigh = r.boundAhead(closing)
 	default:
-		v.Low, v.HasLow = rats.Of(0), true
+		v.HasLow = true
 	}
 	return sought{v, name.At}
 }
@@ -175,10 +176,10 @@ func (r *reader) name() api.Token {
 	return r.take()
 }
 
-// boundAhead takes a bound, or none, and the sign that must stand behind it.
+// boundAhead takes a bound, or none, which is 0, and the sign that must stand behind it.
 func (r *reader) boundAhead(sign string) (x api.Rat, found bool) {
 	if r.has(sign) {
-		return api.Rat{}, false
+		return rats.Of(0), false
 	}
 	x = r.bound()
 	r.oneOf(sign)
